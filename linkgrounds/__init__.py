@@ -1,0 +1,1 @@
+"""Proofs without an order: see linkgrounds.proofs."""
