@@ -1,4 +1,4 @@
-"""Texts of formulas, the links of their letters, and which links are a proof.
+"""Texts of formulas, the links of their letters, which links are a proof, and why others are none.
 
 The program is this one file, for it is asked to import nothing.
 """
@@ -11,6 +11,7 @@ MOST_BRACKETS = 16
 NO_LENGTH = -1
 NO_TEXT = -2
 NO_LINKS = -3
+NO_ANSWER = -6
 
 
 class Part:
@@ -26,10 +27,12 @@ class Reading:
     def __init__(self):
         # Each part stands behind those within it: one walk can build on what it found before.
         self.parts = []
-        # The index of the letter at each place, and of each formula that lies in no other.
+        # The index of the letter at each place.
         self.letters = []
-        self.tops = []
-        # Those still open: sign and first formula, or None as long as the sign hasn't come.
+        # The index of each |, in the order of these signs; None as long as its bracket is open.
+        self.ones = []
+        # Those still open: sign, first formula and how many | came before the sign; or None as
+        # long as the sign hasn't come.
         self.brackets = []
         # The index of the formula that ends here, or None where a formula has to begin.
         self.latest = None
@@ -61,7 +64,6 @@ def begin_formula(reading, byte):
 def go_on_outside_brackets(reading, byte):
     if byte != ord(","):
         return False
-    reading.tops.append(reading.latest)
     reading.latest = None
     return True
 
@@ -69,8 +71,10 @@ def go_on_outside_brackets(reading, byte):
 def go_on_to_second(reading, byte):
     if byte != ord("*") and byte != ord("|"):
         return False
-    reading.brackets[-1] = (byte, reading.latest)
+    reading.brackets[-1] = (byte, reading.latest, len(reading.ones))
     reading.latest = None
+    if byte == ord("|"):
+        reading.ones.append(None)
     return True
 
 
@@ -79,6 +83,8 @@ def close_bracket(reading, byte):
         return False
     half = reading.brackets.pop()
     finish_part(reading, Part(half[0], half[1], reading.latest))
+    if half[0] == ord("|"):
+        reading.ones[half[2]] = reading.latest
     return True
 
 
@@ -100,7 +106,6 @@ def read_text(text):
             return None
     if reading.latest is None or reading.brackets:
         return None
-    reading.tops.append(reading.latest)
     return reading
 
 
@@ -121,63 +126,130 @@ def are_links(reading, links):
     return True
 
 
-# A piece is a number for parts that are proved together: those of them that lie in no other
-# part of the piece have a proof. A part that isn't proved yet has None.
+# None where nothing is refused.
+def refusal_of_text(text, reading):
+    if len(text) > MOST_BYTES:
+        return NO_LENGTH
+    if reading is None:
+        return NO_TEXT
+    return None
 
 
-def pieces_of_letters(reading, links):
-    pieces = [None for part in reading.parts]
+def refusal_of_links(text, reading, links):
+    if len(links) > MOST_LINKS:
+        return NO_LENGTH
+    refusal = refusal_of_text(text, reading)
+    if refusal is None and not are_links(reading, links):
+        return NO_LINKS
+    return refusal
+
+
+class Pieces:
+    def __init__(self, numbers, waiting):
+        # Of each part the number of its piece: parts of one piece hang together in the graphs of
+        # all choices alike.
+        self.numbers = numbers
+        # The index of each | that isn't joined with anything yet, as its two formulas lie in
+        # different pieces: there the choice matters.
+        self.waiting = waiting
+
+
+def join_pieces(numbers, one, other):
+    kept = numbers[one]
+    joined = numbers[other]
+    return [kept if number == joined else number for number in numbers]
+
+
+# A | whose formulas lie in one piece belongs to that piece whichever is chosen. One that lies there
+# itself would make a ring, so it stays waiting for good.
+def settle_waiting(reading, numbers, waiting):
+    going_on = True
+    while going_on:
+        still = []
+        for index in waiting:
+            part = reading.parts[index]
+            piece = numbers[part.left]
+            if piece == numbers[part.right] and piece != numbers[index]:
+                numbers = join_pieces(numbers, part.left, index)
+            else:
+                still.append(index)
+        going_on = len(still) < len(waiting)
+        waiting = still
+    return Pieces(numbers, waiting)
+
+
+# None where the line makes a ring in the graphs of all choices.
+def add_line(reading, pieces, one, other):
+    if pieces.numbers[one] == pieces.numbers[other]:
+        return None
+    return settle_waiting(reading, join_pieces(pieces.numbers, one, other), pieces.waiting)
+
+
+def pieces_without_links(reading):
+    numbers = list(range(len(reading.parts)))
+    for index, part in enumerate(reading.parts):
+        if part.sign == ord("*"):
+            numbers = join_pieces(join_pieces(numbers, index, part.left), index, part.right)
+    return Pieces(numbers, reading.ones)
+
+
+# None where the graphs of all choices have a ring.
+def pieces_of_links(reading, links):
+    pieces = pieces_without_links(reading)
     for place, other in enumerate(links):
-        pieces[reading.letters[place]] = min(place, other)
+        if pieces is not None and place < other:
+            pieces = add_line(reading, pieces, reading.letters[place], reading.letters[other])
     return pieces
 
 
-def can_be_proved(part, pieces):
-    left = pieces[part.left]
-    right = pieces[part.right]
-    if left is None or right is None:
+# By a known theorem these three are the same: the links are a proof, every choice's graph is a
+# tree, and all parts come to be one piece in this way. So neither proofs nor choices are tried out.
+def is_proof(pieces):
+    if pieces is None or pieces.waiting:
         return False
-    if part.sign == ord("*"):
-        return left != right
-    return left == right
+    return pieces.numbers.count(pieces.numbers[0]) == len(pieces.numbers)
 
 
-def join_pieces(pieces, kept, joined):
-    for index in range(len(pieces)):
-        if pieces[index] == joined:
-            pieces[index] = kept
+def choose(reading, pieces, index, chosen):
+    waiting = [other for other in pieces.waiting if other != index]
+    return add_line(reading, Pieces(pieces.numbers, waiting), index, chosen)
 
 
-# Answers whether any part was proved.
-def prove_parts(parts, pieces):
-    proved = False
-    for index, part in enumerate(parts):
-        if pieces[index] is None and can_be_proved(part, pieces):
-            join_pieces(pieces, pieces[part.left], pieces[part.right])
-            pieces[index] = pieces[part.left]
-            proved = True
-    return proved
-
-
-def is_proof(reading, links):
-    # The rules are followed from the letters upwards, each as soon as it can be. No search is
-    # needed: every formula is used once, so where there is a proof no step blocks another.
-    pieces = pieces_of_letters(reading, links)
-    going_on = True
-    while going_on:
-        going_on = prove_parts(reading.parts, pieces)
-    whole = pieces[reading.tops[0]]
-    return whole is not None and all([pieces[top] == whole for top in reading.tops])
+# Where the pieces are no proof. Once chosen, a | is no more than its chosen formula, and the other
+# formula stands by itself. That is like a text again, so it can be asked of it whether every
+# further choice's graph is a tree.
+def first_choice_without_tree(reading, pieces):
+    choice = 0
+    weight = 1
+    for index in reading.ones:
+        # After a ring, and where the | isn't waiting, both of its formulas come to the same.
+        if pieces is not None and index in pieces.waiting:
+            part = reading.parts[index]
+            further = choose(reading, pieces, index, part.left)
+            if is_proof(further):
+                choice += weight
+                further = choose(reading, pieces, index, part.right)
+            pieces = further
+        weight *= 2
+    return choice
 
 
 def net(text, links):
-    if len(text) > MOST_BYTES or len(links) > MOST_LINKS:
-        return [NO_LENGTH]
     reading = read_text(text)
-    if reading is None:
-        return [NO_TEXT]
-    if not are_links(reading, links):
-        return [NO_LINKS]
-    if is_proof(reading, links):
+    refusal = refusal_of_links(text, reading, links)
+    if refusal is not None:
+        return [refusal]
+    if is_proof(pieces_of_links(reading, links)):
         return [1]
     return [0]
+
+
+def why(text, links):
+    reading = read_text(text)
+    refusal = refusal_of_links(text, reading, links)
+    if refusal is not None:
+        return [refusal]
+    pieces = pieces_of_links(reading, links)
+    if is_proof(pieces):
+        return [NO_ANSWER]
+    return [first_choice_without_tree(reading, pieces)]

@@ -2,6 +2,8 @@
 
 A formula is here a place (a letter), or a tuple (sign, formula, formula). None of this reads a text:
 texts are written from formulas, so a fault in the program's reading can't hide in here too.
+
+At the end formulas are grown by the rules, for tests with more letters than can be gone through whole.
 """
 
 import itertools
@@ -145,14 +147,29 @@ def all_selections(row):
 
 def every_choice_is_a_tree(formulas, links):
     """The known other way to tell a proof: under "Choices", every choice's graph is a tree."""
-    parts = []
-    for formula in formulas:
-        parts.extend(parts_of(formula))
+    return first_choice_without_tree(formulas, links) is None
+
+
+def first_choice_without_tree(formulas, links):
+    """The number of the first choice, in their order, whose graph isn't a tree; None if there's none."""
+    for number, lines in all_choices(formulas, links):
+        if not is_tree(all_parts(formulas), lines):
+            return number
+    return None
+
+
+def all_choices(formulas, links):
+    """The number of every choice, in their order, and the lines of its graph."""
+    parts = all_parts(formulas)
     ones = [part for part in parts if not isinstance(part, int) and part[0] == "|"]
-    return all(
-        is_tree(parts, lines_of(parts, dict(zip(ones, chosen)), links))
-        for chosen in itertools.product((1, 2), repeat=len(ones))
-    )
+    for chosen in itertools.product((1, 2), repeat=len(ones)):
+        number = sum(2 ** j for j, which in enumerate(chosen) if which == 2)
+        yield number, lines_of(parts, dict(zip(ones, chosen)), links)
+
+
+def all_parts(formulas):
+    """From the left, a bracket where its sign stands."""
+    return [part for formula in formulas for part in parts_of(formula)]
 
 
 def parts_of(formula):
@@ -186,3 +203,67 @@ def is_tree(parts, lines):
                 reached.add(part)
                 waiting.append(part)
     return len(reached) == len(parts)
+
+
+def near(count):
+    """Each place linked with its neighbour."""
+    return [place ^ 1 for place in range(count)]
+
+
+def grow_proof(dice, pairs):
+    """A row of formulas, grown by the three rules from linked letters: leaves 0 and 1, 2 and 3, ..
+
+    The leaves are not in order: place_in_order gives them their places.
+    """
+    rows = [[2 * pair, 2 * pair + 1] for pair in range(pairs)]
+    while len(rows) > 1 or dice.random() < 0.8 and len(rows[0]) > 1:
+        row = rows.pop(dice.randrange(len(rows)))
+        formula = row.pop(dice.randrange(len(row)))
+        if row and (not rows or dice.random() < 0.4):
+            row.append(("|", formula, row.pop(dice.randrange(len(row)))))
+        elif rows:
+            other_row = rows.pop(dice.randrange(len(rows)))
+            row.append(("*", formula, other_row.pop(dice.randrange(len(other_row)))))
+            row.extend(other_row)
+        else:
+            row.append(formula)
+        rows.append(row)
+    return rows[0]
+
+
+def leaves(formula):
+    return [part for part in parts_of(formula) if isinstance(part, int)]
+
+
+def place_in_order(formulas):
+    """The same formulas with places from the left, and the links that came along."""
+    order = [leaf for formula in formulas for leaf in leaves(formula)]
+    place = {leaf: number for number, leaf in enumerate(order)}
+
+    def renumber(formula):
+        if isinstance(formula, int):
+            return place[formula]
+        return (formula[0], renumber(formula[1]), renumber(formula[2]))
+
+    return [renumber(formula) for formula in formulas], [place[leaf ^ 1] for leaf in order]
+
+
+def change_signs(formula, turns):
+    """The formula with * and | changed at those brackets, from the left, where turns say so."""
+    if isinstance(formula, int):
+        return formula
+    left = change_signs(formula[1], turns)
+    sign = formula[0]
+    if next(turns):
+        sign = "|" if sign == "*" else "*"
+    return (sign, left, change_signs(formula[2], turns))
+
+
+def swap_signs(dice, formulas):
+    """The formulas with the signs of two brackets swapped: as many of both and of one with the other as before."""
+    signs = [part[0] for part in all_parts(formulas) if not isinstance(part, int)]
+    swapped = list(signs)
+    one, other = dice.sample(range(len(signs)), 2)
+    swapped[one], swapped[other] = swapped[other], swapped[one]
+    turns = iter([before != after for before, after in zip(signs, swapped)])
+    return [change_signs(formula, turns) for formula in formulas]

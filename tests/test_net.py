@@ -12,60 +12,6 @@ def ask(text, links):
     return net(plain_rules.as_bytes(text), list(links))
 
 
-def near(count):
-    """Each place linked with its neighbour."""
-    return [place ^ 1 for place in range(count)]
-
-
-def grow_proof(dice, pairs):
-    """A row of formulas, grown by the three rules from linked letters: leaves 0 and 1, 2 and 3, ..
-
-    The leaves are not in order: place_in_order gives them their places.
-    """
-    rows = [[2 * pair, 2 * pair + 1] for pair in range(pairs)]
-    while len(rows) > 1 or dice.random() < 0.8 and len(rows[0]) > 1:
-        row = rows.pop(dice.randrange(len(rows)))
-        formula = row.pop(dice.randrange(len(row)))
-        if row and (not rows or dice.random() < 0.4):
-            row.append(("|", formula, row.pop(dice.randrange(len(row)))))
-        elif rows:
-            other_row = rows.pop(dice.randrange(len(rows)))
-            row.append(("*", formula, other_row.pop(dice.randrange(len(other_row)))))
-            row.extend(other_row)
-        else:
-            row.append(formula)
-        rows.append(row)
-    return rows[0]
-
-
-def leaves(formula):
-    return [part for part in plain_rules.parts_of(formula) if isinstance(part, int)]
-
-
-def place_in_order(formulas):
-    """The same formulas with places from the left, and the links that came along."""
-    order = [leaf for formula in formulas for leaf in leaves(formula)]
-    place = {leaf: number for number, leaf in enumerate(order)}
-
-    def renumber(formula):
-        if isinstance(formula, int):
-            return place[formula]
-        return (formula[0], renumber(formula[1]), renumber(formula[2]))
-
-    return [renumber(formula) for formula in formulas], [place[leaf ^ 1] for leaf in order]
-
-
-def change_signs(formula, turns):
-    """The formula with * and | changed at those brackets, from the left, where turns say so."""
-    if isinstance(formula, int):
-        return formula
-    left = change_signs(formula[1], turns)
-    sign = formula[0]
-    if next(turns):
-        sign = "|" if sign == "*" else "*"
-    return (sign, left, change_signs(formula[2], turns))
-
-
 class Net(unittest.TestCase):
     def test_two_letters(self):
         self.assertEqual(ask("a,A", [1, 0]), [1])
@@ -101,10 +47,11 @@ class Net(unittest.TestCase):
 
     def test_sixteen_letters_in_one_row(self):
         chain = "a,(A*b),(B*c),(C*d),(D*e),(E*f),(F*g),(G*h),H"
-        self.assertEqual(ask(chain, near(16)), [1])
-        self.assertEqual(ask(chain.replace("(E*f)", "(E|f)"), near(16)), [0])
-        self.assertEqual(ask(chain.replace("(E*f)", "E,f"), near(16)), [0])
-        self.assertEqual(ask(",".join(f"({letter}|{letter.upper()})" for letter in "abcdefgh"), near(16)), [0])
+        self.assertEqual(ask(chain, plain_rules.near(16)), [1])
+        self.assertEqual(ask(chain.replace("(E*f)", "(E|f)"), plain_rules.near(16)), [0])
+        self.assertEqual(ask(chain.replace("(E*f)", "E,f"), plain_rules.near(16)), [0])
+        pairs = ",".join(f"({letter}|{letter.upper()})" for letter in "abcdefgh")
+        self.assertEqual(ask(pairs, plain_rules.near(16)), [0])
 
     def test_sixteen_letters_deep(self):
         several = "(((((((a*b)*c)*d)*e)*f)*g)*h),(A|(B|(C|(D|(E|(F|(G|H)))))))"
@@ -124,9 +71,9 @@ class Net(unittest.TestCase):
         for place in range(1, 16):
             text = "(" + text + ("|" if place % 2 else "*") + letters[place] + ")"
         # Each pair is bracketed as ((..*x)|X), which has a proof with all that came before it.
-        self.assertEqual(ask(text, near(16)), [1])
-        self.assertEqual(ask(text.replace("|H", "*H"), near(16)), [0])
-        self.assertEqual(ask(text.replace("*b", "|b").replace("|B", "*B"), near(16)), [0])
+        self.assertEqual(ask(text, plain_rules.near(16)), [1])
+        self.assertEqual(ask(text.replace("|H", "*H"), plain_rules.near(16)), [0])
+        self.assertEqual(ask(text.replace("*b", "|b").replace("|B", "*B"), plain_rules.near(16)), [0])
 
 
 class AgainstPlainRules(unittest.TestCase):
@@ -150,10 +97,10 @@ class AgainstPlainRules(unittest.TestCase):
     def test_texts_of_eight_letters_around_proofs(self):
         dice = random.Random(8)
         for turn in range(400):
-            formulas, links = place_in_order(grow_proof(dice, 4))
+            formulas, links = plain_rules.place_in_order(plain_rules.grow_proof(dice, 4))
             self.check(formulas, plain_rules.letters_for(links), links)
             turns = (dice.random() < 0.3 for bracket in itertools.count())
-            changed = [change_signs(formula, turns) for formula in formulas]
+            changed = [plain_rules.change_signs(formula, turns) for formula in formulas]
             self.check(changed, plain_rules.letters_for(links), links)
 
     def check(self, formulas, letters, links):
@@ -167,10 +114,10 @@ class LargeTexts(unittest.TestCase):
     def test_what_is_grown_by_the_rules_is_a_proof_in_any_order(self):
         dice = random.Random(16)
         for turn in range(1000):
-            grown = grow_proof(dice, 8 if turn % 4 else dice.randrange(1, 8))
+            grown = plain_rules.grow_proof(dice, 8 if turn % 4 else dice.randrange(1, 8))
             for order in range(3):
                 dice.shuffle(grown)
-                formulas, links = place_in_order(grown)
+                formulas, links = plain_rules.place_in_order(grown)
                 text = plain_rules.write(formulas, plain_rules.letters_for(links))
                 self.assertEqual(ask(text, links), [1], (text, links))
 
@@ -178,11 +125,11 @@ class LargeTexts(unittest.TestCase):
         # A proof has one both less than pairs of letters, so a single sign changed always spoils it.
         dice = random.Random(17)
         for turn in range(100):
-            formulas, links = place_in_order(grow_proof(dice, 8))
+            formulas, links = plain_rules.place_in_order(plain_rules.grow_proof(dice, 8))
             brackets = plain_rules.write(formulas, "a" * 16).count("(")
             for changed in range(brackets):
                 turns = iter([bracket == changed for bracket in range(brackets)])
-                other = [change_signs(formula, turns) for formula in formulas]
+                other = [plain_rules.change_signs(formula, turns) for formula in formulas]
                 text = plain_rules.write(other, plain_rules.letters_for(links))
                 self.assertEqual(ask(text, links), [0], (text, links))
 
@@ -190,13 +137,8 @@ class LargeTexts(unittest.TestCase):
         dice = random.Random(18)
         seen = {0: 0, 1: 0}
         for turn in range(300):
-            formulas, links = place_in_order(grow_proof(dice, 8))
-            signs = [sign for sign in plain_rules.write(formulas, "a" * 16) if sign in "*|"]
-            swapped = list(signs)
-            one, other = dice.sample(range(len(signs)), 2)
-            swapped[one], swapped[other] = swapped[other], swapped[one]
-            turns = iter([before != after for before, after in zip(signs, swapped)])
-            formulas = [change_signs(formula, turns) for formula in formulas]
+            formulas, links = plain_rules.place_in_order(plain_rules.grow_proof(dice, 8))
+            formulas = plain_rules.swap_signs(dice, formulas)
             expected = int(plain_rules.every_choice_is_a_tree(formulas, links))
             seen[expected] += 1
             text = plain_rules.write(formulas, plain_rules.letters_for(links))
