@@ -1,4 +1,4 @@
-"""Texts of formulas, the links of their letters, which links are a proof, and why others are none.
+"""Texts of formulas and the links of their letters: which are a proof, why others are none, which proof comes first.
 
 The program is this one file, for it is asked to import nothing.
 """
@@ -234,6 +234,92 @@ def first_choice_without_tree(reading, pieces):
     return choice
 
 
+class Linking:
+    def __init__(self, links, places, pieces):
+        # None at the places that are not linked yet; these are told from the left.
+        self.links = links
+        self.places = places
+        self.pieces = pieces
+
+
+def linking_without_links(reading):
+    places = list(range(len(reading.letters)))
+    return Linking([None for place in places], places, pieces_without_links(reading))
+
+
+# Every choice's graph has two lines for each *, one for each | and one for each link. That makes a
+# tree only where there is one * less than links, whatever they are.
+def can_have_proof(reading):
+    signs = [part.sign for part in reading.parts]
+    for plain, turned in zip("abcdefgh", "ABCDEFGH"):
+        if signs.count(ord(plain)) != signs.count(ord(turned)):
+            return False
+    return 2 * signs.count(ord("*")) + 2 == len(reading.letters)
+
+
+# What is found here no further link can mend.
+def has_ring(reading, pieces):
+    numbers = pieces.numbers
+    for index in pieces.waiting:
+        part = reading.parts[index]
+        if numbers[index] == numbers[part.left] or numbers[index] == numbers[part.right]:
+            return True
+    return False
+
+
+def add_link(reading, linking, place, other):
+    pieces = add_line(reading, linking.pieces, reading.letters[place], reading.letters[other])
+    if pieces is None or has_ring(reading, pieces):
+        return None
+    links = list(linking.links)
+    links[place] = other
+    links[other] = place
+    return Linking(links, [left for left in linking.places if links[left] is None], pieces)
+
+
+# The lower links come first, as the first proof is to have them.
+def all_further_linkings(reading, linking):
+    place = linking.places[0]
+    sign = reading.parts[reading.letters[place]].sign
+    linkings = []
+    for other in linking.places:
+        if is_turned_other(sign, reading.parts[reading.letters[other]].sign):
+            further = add_link(reading, linking, place, other)
+            if further is not None:
+                linkings.append(further)
+    return linkings
+
+
+# Linkings of one text have the same key only if they go on in the same ways: then the same places
+# are left and the same | waiting, and what can still be joined lies in the same pieces. (How many
+# pieces have nothing left to join follows from can_have_proof.)
+def key_of_linking(reading, linking):
+    ends = [reading.letters[place] for place in linking.places]
+    for index in linking.pieces.waiting:
+        ends.extend([index, reading.parts[index].left, reading.parts[index].right])
+    first_ends = {}
+    key = list(ends)
+    for end in ends:
+        key.append(first_ends.setdefault(linking.pieces.numbers[end], end))
+    return tuple(key)
+
+
+# None where no proof begins with the linking. The keys of such linkings are collected in dead, for
+# of many rows of links few differ in what is left.
+def find_proof(reading, linking, dead):
+    if not linking.places:
+        return linking.links if is_proof(linking.pieces) else None
+    key = key_of_linking(reading, linking)
+    if key in dead:
+        return None
+    for further in all_further_linkings(reading, linking):
+        links = find_proof(reading, further, dead)
+        if links is not None:
+            return links
+    dead[key] = True
+    return None
+
+
 def net(text, links):
     reading = read_text(text)
     refusal = refusal_of_links(text, reading, links)
@@ -253,3 +339,16 @@ def why(text, links):
     if is_proof(pieces):
         return [NO_ANSWER]
     return [first_choice_without_tree(reading, pieces)]
+
+
+def first(text):
+    reading = read_text(text)
+    refusal = refusal_of_text(text, reading)
+    if refusal is not None:
+        return [refusal]
+    links = None
+    if can_have_proof(reading):
+        links = find_proof(reading, linking_without_links(reading), {})
+    if links is None:
+        return [NO_ANSWER]
+    return [len(links)] + links

@@ -49,19 +49,24 @@ def are_links(letters, numbers):
 
 def all_links(letters):
     """Every row of links of these letters."""
-    return [list(row) for row in all_pairings(list(range(len(letters)))) if are_links(letters, row)]
+
+    def fit(one, other):
+        return letters[one] != letters[other] and letters[one].lower() == letters[other].lower()
+
+    return list(all_pairings(list(range(len(letters))), fit))
 
 
-def all_pairings(places):
-    """Every way to link each of the places 0, 1, .. with one other, whatever the letters."""
+def all_pairings(places, fit=lambda one, other: True):
+    """Every way to link each of the places 0, 1, .. with one other that fits."""
 
     def pairs(left):
         if not left:
             yield []
         for other in left[1:]:
-            rest = [place for place in left if place not in (left[0], other)]
-            for further in pairs(rest):
-                yield [(left[0], other)] + further
+            if fit(left[0], other):
+                rest = [place for place in left if place not in (left[0], other)]
+                for further in pairs(rest):
+                    yield [(left[0], other)] + further
 
     for pairing in pairs(places):
         row = [0] * len(places)
@@ -78,6 +83,16 @@ def letters_for(pairing):
     for number, (one, other) in enumerate(pairs):
         letters[one] = PLAIN[number]
         letters[other] = TURNED[number]
+    return "".join(letters)
+
+
+def letters_alike(dice, pairing, signs):
+    """Letters of which the pairing is one of several rows of links: each pair gets one of the signs."""
+    letters = [""] * len(pairing)
+    for one, other in enumerate(pairing):
+        if one < other:
+            sign = dice.choice(signs)
+            letters[one], letters[other] = dice.sample([sign, sign.upper()], 2)
     return "".join(letters)
 
 
@@ -137,6 +152,11 @@ def has_proof(formulas, links):
         )
 
     return proved(list(formulas))
+
+
+def all_proofs(formulas, letters):
+    """Every row of links that's a proof."""
+    return [links for links in all_links(letters) if has_proof(formulas, links)]
 
 
 def all_selections(row):
