@@ -1,4 +1,6 @@
-"""Texts of formulas and the links of their letters: which are a proof, why others are none, which proof comes first.
+"""Texts of formulas and the links of their letters: which are a proof, and why others are none.
+
+The first proof of a text is found, and all are counted.
 
 The program is this one file, for it is asked to import nothing.
 """
@@ -320,6 +322,17 @@ def find_proof(reading, linking, dead):
     return None
 
 
+# How many proofs begin with the linking; known has that of the keys that were met before.
+def count_proofs(reading, linking, known):
+    if not linking.places:
+        return 1 if is_proof(linking.pieces) else 0
+    key = key_of_linking(reading, linking)
+    if key not in known:
+        linkings = all_further_linkings(reading, linking)
+        known[key] = sum([count_proofs(reading, further, known) for further in linkings])
+    return known[key]
+
+
 def net(text, links):
     reading = read_text(text)
     refusal = refusal_of_links(text, reading, links)
@@ -352,3 +365,13 @@ def first(text):
     if links is None:
         return [NO_ANSWER]
     return [len(links)] + links
+
+
+def count(text):
+    reading = read_text(text)
+    refusal = refusal_of_text(text, reading)
+    if refusal is not None:
+        return [refusal]
+    if not can_have_proof(reading):
+        return [0]
+    return [count_proofs(reading, linking_without_links(reading), {})]

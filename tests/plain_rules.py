@@ -35,6 +35,10 @@ def depth(text):
     return max(deep)
 
 
+def letters_of(text):
+    return "".join(sign for sign in text if sign in PLAIN + TURNED)
+
+
 def are_links(letters, numbers):
     """Whether numbers are links of these letters, condition by condition."""
     return len(numbers) == len(letters) and all(

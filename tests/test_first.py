@@ -21,10 +21,6 @@ def is_proof(text, links):
     return net(plain_rules.as_bytes(text), list(links)) == [1]
 
 
-def letters_of(text):
-    return "".join(sign for sign in text if sign in plain_rules.PLAIN + plain_rules.TURNED)
-
-
 def first_of(rows):
     """The row with the lower number at the first place at which they differ, with its length ahead."""
     return [len(min(rows))] + min(rows) if rows else [-6]
@@ -112,7 +108,7 @@ class SixteenLettersAlike(unittest.TestCase):
         self.assertEqual(ask(",".join(["(a|A)"] * 8)), [-6])
 
     def test_no_proof_at_all_each_row_looked_at(self):
-        rows = plain_rules.all_links(letters_of(NONE_IS_A_PROOF))
+        rows = plain_rules.all_links(plain_rules.letters_of(NONE_IS_A_PROOF))
         self.assertEqual(len(rows), 40320)
         self.assertFalse(any(is_proof(NONE_IS_A_PROOF, links) for links in rows))
 

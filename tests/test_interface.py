@@ -12,12 +12,13 @@ from unittest import mock
 
 import linkgrounds.proofs
 import plain_rules
-from linkgrounds.proofs import first, net, why
+from linkgrounds.proofs import count, first, net, why
 
 ARGUMENTS = (
     (net, ["text", "links"]),
     (why, ["text", "links"]),
     (first, ["text"]),
+    (count, ["text"]),
 )
 # A text, links, what net answers of the two, and what why answers.
 LOOKED_AT = (
@@ -35,17 +36,18 @@ LOOKED_AT = (
     ("a" * 257, [], [-1], [-1]),
     ("a,A", [0] * 17, [-1], [-1]),
 )
-# A text, and what first answers.
+# A text, what first answers of it, and what count answers.
 LOOKED_FOR = (
-    ("a,A", [2, 1, 0]),
-    ("(a*A)", [-6]),
-    ("(a*a),(A|A)", [4, 2, 3, 0, 1]),
-    ("(a*A),a,A", [4, 3, 2, 1, 0]),
-    ("a", [-6]),
-    ("(a|A),", [-2]),
-    ("", [-2]),
-    ("(" * 256, [-2]),
-    ("a" * 257, [-1]),
+    ("a,A", [2, 1, 0], [1]),
+    ("(a*A)", [-6], [0]),
+    ("(a*a),(A|A)", [4, 2, 3, 0, 1], [2]),
+    ("(a*A),a,A", [4, 3, 2, 1, 0], [1]),
+    ("((a*a)*a),A,A,A", [6, 3, 4, 5, 0, 1, 2], [6]),
+    ("a", [-6], [0]),
+    ("(a|A),", [-2], [-2]),
+    ("", [-2], [-2]),
+    ("(" * 256, [-2], [-2]),
+    ("a" * 257, [-1], [-1]),
 )
 
 
@@ -55,8 +57,9 @@ def all_calls():
     for text, links, net_answer, why_answer in LOOKED_AT:
         calls.append((net, [plain_rules.as_bytes(text), list(links)], net_answer))
         calls.append((why, [plain_rules.as_bytes(text), list(links)], why_answer))
-    for text, first_answer in LOOKED_FOR:
+    for text, first_answer, count_answer in LOOKED_FOR:
         calls.append((first, [plain_rules.as_bytes(text)], first_answer))
+        calls.append((count, [plain_rules.as_bytes(text)], count_answer))
     return calls
 
 
@@ -77,6 +80,7 @@ class Interface(unittest.TestCase):
         self.assertEqual(net(text=[97, 44, 65], links=[1, 0]), [1])
         self.assertEqual(why(text=[97, 44, 65], links=[1, 0]), [-6])
         self.assertEqual(first(text=[97, 44, 65]), [2, 1, 0])
+        self.assertEqual(count(text=[97, 44, 65]), [1])
 
     def test_answer_is_a_list_of_whole_numbers(self):
         for function, handed_in, expected in all_calls():

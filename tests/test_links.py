@@ -56,7 +56,7 @@ class Links(unittest.TestCase):
     def test_all_rows_of_numbers(self):
         texts = ("a", "a,A", "a,a", "(a*A),a", "(a*A),(A|a)", "a,(b|A),B", "(a|(A*b)),A")
         for text in texts:
-            letters = "".join(sign for sign in text if sign in plain_rules.PLAIN + plain_rules.TURNED)
+            letters = plain_rules.letters_of(text)
             for count in range(len(letters) + 2):
                 for numbers in itertools.product(range(len(letters) + 1), repeat=count):
                     refused = ask(text, numbers) == [-3]
